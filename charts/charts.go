@@ -1,0 +1,35 @@
+// Package charts: timed statecharts: see DOC.md.
+package charts
+
+import (
+	"charts/api"
+	"charts/lower"
+	"charts/reader"
+)
+
+// Session is a chart that runs.
+type Session struct{}
+
+// Start starts a chart (P7).
+func Start(s string) (*Session, []api.Step, error) { return nil, nil, nil }
+
+// Lower writes a chart without moves behind a delay (P5).
+func Lower(s string) (string, error) {
+	c, err := reader.Read(s)
+	if err != nil {
+		return "", err
+	}
+	return lower.Text(c), nil
+}
+
+// Event hands in an event from outside (P9).
+func (x *Session) Event(name string) ([]api.Step, error) { return nil, nil }
+
+// Clock hands in a reading of the clock (P11).
+func (x *Session) Clock(raw uint64) ([]api.Step, error) { return nil, nil }
+
+// Now tells how late it is (P11).
+func (x *Session) Now() uint64 { return 0 }
+
+// Pending tells which timers run (P11).
+func (x *Session) Pending() []api.Wait { return nil }
