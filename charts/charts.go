@@ -4,14 +4,25 @@ package charts
 import (
 	"charts/api"
 	"charts/lower"
+	"charts/plan"
 	"charts/reader"
+	"charts/run"
 )
 
 // Session is a chart that runs.
-type Session struct{}
+type Session struct {
+	machine *run.Machine
+}
 
 // Start starts a chart (P7).
-func Start(s string) (*Session, []api.Step, error) { return nil, nil, nil }
+func Start(s string) (*Session, []api.Step, error) {
+	c, err := reader.Read(s)
+	if err != nil {
+		return nil, nil, err
+	}
+	m, steps, err := run.Start(plan.New(lower.Delays(c)))
+	return &Session{machine: m}, steps, err
+}
 
 // Lower writes a chart without moves behind a delay (P5).
 func Lower(s string) (string, error) {
@@ -23,7 +34,15 @@ func Lower(s string) (string, error) {
 }
 
 // Event hands in an event from outside (P9).
-func (x *Session) Event(name string) ([]api.Step, error) { return nil, nil }
+func (x *Session) Event(name string) ([]api.Step, error) {
+	if x.neverStarted() {
+		return nil, api.ErrDone
+	}
+	return x.machine.Event(name)
+}
+
+// neverStarted tells of a session that no chart was started for: it has nothing to run, as if it were at its end.
+func (x *Session) neverStarted() bool { return x == nil || x.machine == nil }
 
 // Clock hands in a reading of the clock (P11).
 func (x *Session) Clock(raw uint64) ([]api.Step, error) { return nil, nil }

@@ -9,6 +9,9 @@ type Chart struct {
 // None is the owner of a state of depth 0.
 const None = -1
 
+// DonePrefix stands ahead of a state's name in the event that tells of its end.
+const DonePrefix = "done."
+
 // State is a state with all that belongs to it. Other states are told by their index in the chart.
 type State struct {
 	Kind  Kind

@@ -48,7 +48,8 @@ func readLines(text string) []line {
 	if len(text) > api.MaxText {
 		spot{}.refuse(api.ErrLong)
 	}
-	pieces := strings.Split(text, "\n")
+	// Cloned, since the names in a chart are pieces of the text, and a chart may be kept.
+	pieces := strings.Split(strings.Clone(text), "\n")
 	ended := len(pieces) - 1
 	lines := make([]line, ended)
 	for i, s := range pieces[:ended] {

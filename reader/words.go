@@ -5,10 +5,10 @@ import (
 	"strings"
 
 	"charts/api"
+	"charts/model"
 )
 
 const (
-	donePrefix     = "done."
 	reservedPrefix = "after."
 	lastReserved   = 1500
 )
@@ -97,7 +97,7 @@ func isOwnEvent(word string) bool { return isName(word) || isReserved(word) }
 
 // isAwaited tells whether a move may await this.
 func isAwaited(word string) bool {
-	name, ok := strings.CutPrefix(word, donePrefix)
+	name, ok := strings.CutPrefix(word, model.DonePrefix)
 	return ok && isName(name) || isOwnEvent(word)
 }
 
