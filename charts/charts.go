@@ -41,14 +41,29 @@ func (x *Session) Event(name string) ([]api.Step, error) {
 	return x.machine.Event(name)
 }
 
-// neverStarted tells of a session that no chart was started for: it has nothing to run, as if it were at its end.
-func (x *Session) neverStarted() bool { return x == nil || x.machine == nil }
-
 // Clock hands in a reading of the clock (P11).
-func (x *Session) Clock(raw uint64) ([]api.Step, error) { return nil, nil }
+func (x *Session) Clock(raw uint64) ([]api.Step, error) {
+	if x.neverStarted() {
+		return nil, api.ErrDone
+	}
+	return x.machine.Clock(raw)
+}
 
 // Now tells how late it is (P11).
-func (x *Session) Now() uint64 { return 0 }
+func (x *Session) Now() uint64 {
+	if x.neverStarted() {
+		return 0
+	}
+	return x.machine.Now()
+}
 
 // Pending tells which timers run (P11).
-func (x *Session) Pending() []api.Wait { return nil }
+func (x *Session) Pending() []api.Wait {
+	if x.neverStarted() {
+		return nil
+	}
+	return x.machine.Pending()
+}
+
+// neverStarted tells of a session that no chart was started for: it has nothing to run, as if it were at its end.
+func (x *Session) neverStarted() bool { return x == nil || x.machine == nil }

@@ -112,29 +112,62 @@ func beside(t *testing.T, steps []api.Step, err error) string {
 	return "error"
 }
 
-// play starts a chart, hands in events, parted by blanks, and writes all that is told.
-func play(t *testing.T, s, events string) string {
+// reading takes `@` and a number for a reading of the clock; all other words are events.
+func reading(word string) (uint64, bool) {
+	digits, is := strings.CutPrefix(word, "@")
+	raw, err := strconv.ParseUint(digits, 10, 64)
+	return raw, is && err == nil
+}
+
+// hand hands in an event or a reading of the clock.
+func hand(x *charts.Session, word string) ([]api.Step, error) {
+	if raw, is := reading(word); is {
+		return x.Clock(raw)
+	}
+	return x.Event(word)
+}
+
+// add writes behind what was told what is told now; of a reading that may be nothing.
+func add(out []string, word, now string) []string {
+	if _, is := reading(word); is && now == "" {
+		return out
+	}
+	return append(out, now)
+}
+
+// session starts a chart, hands in events and readings, parted by blanks, and writes all that is told.
+func session(t *testing.T, s, do string) (*charts.Session, string) {
 	t.Helper()
 	x, steps, err := charts.Start(s)
 	if x == nil {
-		t.Errorf("Start(%.80q) = no session, %v", s, err)
-		return ""
+		t.Fatalf("Start(%.80q) = no session, %v", s, err)
 	}
 	out := []string{beside(t, steps, err)}
-	for _, e := range strings.Fields(events) {
-		steps, err = x.Event(e)
-		out = append(out, beside(t, steps, err))
+	for _, word := range strings.Fields(do) {
+		steps, err = hand(x, word)
+		out = add(out, word, beside(t, steps, err))
 	}
-	return strings.Join(out, "; ")
+	return x, strings.Join(out, "; ")
+}
+
+// play is what a session tells.
+func play(t *testing.T, s, do string) string {
+	t.Helper()
+	_, out := session(t, s, do)
+	return out
 }
 
 // playPlain is play by package plain.
-func playPlain(s, events string) string {
+func playPlain(s, do string) string {
 	x, steps, e, _ := plain.Start(s)
 	out := []string{besidePlain(steps, e)}
-	for _, name := range strings.Fields(events) {
-		steps, e = plain.Event(x, name)
-		out = append(out, besidePlain(steps, e))
+	for _, word := range strings.Fields(do) {
+		if raw, is := reading(word); is {
+			steps, e = plain.Clock(x, raw)
+		} else {
+			steps, e = plain.Event(x, word)
+		}
+		out = add(out, word, besidePlain(steps, e))
 	}
 	return strings.Join(out, "; ")
 }
@@ -144,24 +177,50 @@ func besidePlain(steps []api.Step, e api.Errno) string {
 	return strings.TrimSpace(told(steps) + ends[e])
 }
 
-// wantRun asks for what a chart tells when these events are handed in.
-func wantRun(t *testing.T, chart, events, want string) {
+// wantRun asks for what a chart tells when this is handed in.
+func wantRun(t *testing.T, chart, do, want string) {
 	t.Helper()
 	s := text(chart)
-	if got := play(t, s, events); got != want {
-		t.Errorf("%q, %q:\n got %s\nwant %s", chart, events, got, want)
+	if got := play(t, s, do); got != want {
+		t.Errorf("%q, %q:\n got %s\nwant %s", chart, do, got, want)
 	}
-	if got := playPlain(s, events); got != want {
-		t.Errorf("package plain: %q, %q:\n got %s\nwant %s", chart, events, got, want)
+	if got := playPlain(s, do); got != want {
+		t.Errorf("package plain: %q, %q:\n got %s\nwant %s", chart, do, got, want)
 	}
 }
 
 // run is a chart, what is handed in, and what is told.
-type run struct{ chart, events, want string }
+type run struct{ chart, do, want string }
 
 func wantRuns(t *testing.T, runs []run) {
 	t.Helper()
 	for _, r := range runs {
-		wantRun(t, r.chart, r.events, r.want)
+		wantRun(t, r.chart, r.do, r.want)
+	}
+}
+
+// waits writes timers: event and time.
+func waits(list []api.Wait) string {
+	out := make([]string, len(list))
+	for i, w := range list {
+		out[i] = w.Event + " " + strconv.FormatUint(w.At, 10)
+	}
+	return strings.Join(out, "; ")
+}
+
+// rest is a chart, what is handed in, and behind that the time at hand and the timers that run.
+type rest struct {
+	chart, do string
+	now       uint64
+	pending   string
+}
+
+func wantRests(t *testing.T, rests []rest) {
+	t.Helper()
+	for _, r := range rests {
+		x, _ := session(t, text(r.chart), r.do)
+		if now, pending := x.Now(), waits(x.Pending()); now != r.now || pending != r.pending {
+			t.Errorf("P11: %q, %q: at %d: %s\nwant at %d: %s", r.chart, r.do, now, pending, r.now, r.pending)
+		}
 	}
 }

@@ -2,17 +2,14 @@
 package run
 
 import (
-	"math"
 	"strings"
 
 	"charts/api"
 	"charts/model"
 	"charts/plan"
 	"charts/states"
-	"charts/timers"
+	"charts/wheels"
 )
-
-const fullEvent = "full"
 
 // Machine is a chart that runs. Between turns nothing is raised.
 type Machine struct {
@@ -20,9 +17,8 @@ type Machine struct {
 	active states.Set
 	kept   plan.Kept
 	raised []string
-	timers timers.Timers
-	now    uint64
-	end    error // ErrDone or ErrFuel, if it is ended
+	timers wheels.Wheels[timer] // they have the time at hand, too
+	end    error                // ErrDone or ErrFuel, if it is ended
 }
 
 // Start starts a chart, and tells its first turn.
@@ -38,9 +34,14 @@ func (m *Machine) Event(name string) ([]api.Step, error) {
 	if m.end != nil {
 		return nil, m.end
 	}
-	m.Raise(name)
+	return []api.Step{m.turn(name)}, m.outOfFuel()
+}
+
+// turn is a whole turn, and what there is to tell of it.
+func (m *Machine) turn(event string) api.Step {
+	m.Raise(event)
 	m.answerRaised()
-	return []api.Step{m.step(name)}, m.outOfFuel()
+	return m.step(event)
 }
 
 // answerRaised answers what is raised until there is nothing left, or the session is ended.
@@ -57,7 +58,7 @@ func (m *Machine) answerRaised() {
 	m.raised = nil
 }
 
-// outOfFuel is the error beside the step of a turn.
+// outOfFuel is the error beside steps.
 func (m *Machine) outOfFuel() error {
 	if m.end == api.ErrFuel {
 		return m.end
@@ -70,29 +71,11 @@ func (m *Machine) step(event string) api.Step {
 	for i := range m.active.Forward() {
 		names = append(names, m.plan.States[i].Name)
 	}
-	return api.Step{Event: strings.Clone(event), Time: m.now, States: names}
+	return api.Step{Event: strings.Clone(event), Time: m.Now(), States: names}
 }
 
 // Raise puts an event behind those that are raised already.
 func (m *Machine) Raise(event string) { m.raised = append(m.raised, event) }
-
-// Send starts a timer, if one more may run.
-func (m *Machine) Send(event, name string, delay uint64) {
-	if !m.timers.Start(timers.Timer{Event: event, Name: name, At: later(m.now, delay)}) {
-		m.Raise(fullEvent)
-	}
-}
-
-// Cancel stops the timers of that name.
-func (m *Machine) Cancel(name string) { m.timers.Stop(name) }
-
-// later is the time behind a delay, or the greatest time.
-func later(now, delay uint64) uint64 {
-	if delay > math.MaxUint64-now {
-		return math.MaxUint64
-	}
-	return now + delay
-}
 
 func (m *Machine) do(list []model.Action) {
 	for _, a := range list {

@@ -1,9 +1,8 @@
 package run
 
 import (
-	"math"
-	"reflect"
 	"slices"
+	"strconv"
 	"strings"
 	"testing"
 
@@ -11,7 +10,6 @@ import (
 	"charts/lower"
 	"charts/plan"
 	"charts/reader"
-	"charts/timers"
 )
 
 func start(t *testing.T, text string) *Machine {
@@ -96,56 +94,54 @@ state b
  enter do cancel after
 `
 
+// running writes the timers that run, in the order in which they fire, with their names.
+func running(m *Machine) string {
+	var out []string
+	for at, t := range m.timers.All() {
+		out = append(out, strings.TrimSpace(strconv.FormatUint(at, 10)+" "+t.event+" "+t.name))
+	}
+	return strings.Join(out, "; ")
+}
+
 // TestSend: when timers are to fire, by which names.
 func TestSend(t *testing.T) {
-	const greatest = math.MaxUint64
+	const greatest = "18446744073709551615"
 	for _, c := range []struct {
-		now  uint64
-		want []timers.Timer
+		now           uint64
+		started, left string
 	}{
-		{0, []timers.Timer{{Event: "e", At: 3}, {Event: "f", Name: "i", At: greatest}, {Event: "m", Name: "i", At: 2}}},
-		{1, []timers.Timer{{Event: "e", At: 3}, {Event: "f", Name: "i", At: greatest}, {Event: "m", Name: "i", At: 3}}},
-		{greatest - 2, []timers.Timer{{Event: "e", At: 3}, {Event: "f", Name: "i", At: greatest}, {Event: "m", Name: "i", At: greatest}}},
-		{greatest - 1, []timers.Timer{{Event: "e", At: 3}, {Event: "f", Name: "i", At: greatest}, {Event: "m", Name: "i", At: greatest}}},
-		{greatest, []timers.Timer{{Event: "e", At: 3}, {Event: "f", Name: "i", At: greatest}, {Event: "m", Name: "i", At: greatest}}},
+		{0, "3 e; 5 after.6 after.6; 7 after.4 after.4; " + greatest + " f i", "2 m i; 3 e; " + greatest + " f i"},
+		{1, "3 e; 5 after.6 after.6; 7 after.4 after.4; " + greatest + " f i", "3 e; 3 m i; " + greatest + " f i"},
+		{4, "5 after.6 after.6; 7 after.4 after.4; " + greatest + " f i", "6 m i; " + greatest + " f i"},
 	} {
 		m := start(t, sending)
-		started := fill(t, []timers.Timer{{Event: "e", At: 3}, {Event: "f", Name: "i", At: greatest}, {Event: "after.4", Name: "after.4", At: 7}, {Event: "after.6", Name: "after.6", At: 5}})
-		if !reflect.DeepEqual(m.timers, started) {
-			t.Fatalf("P10: started: %v", m.timers)
+		m.Clock(c.now)
+		if got := running(m); got != c.started {
+			t.Errorf("P10: at %d: timers %q, want %q", c.now, got, c.started)
 		}
-		m.now = c.now
 		m.Event("x")
-		if !reflect.DeepEqual(m.timers, fill(t, c.want)) {
-			t.Errorf("P10: at %d: timers %v, want %v", c.now, m.timers, c.want)
+		if got := running(m); got != c.left {
+			t.Errorf("P10: at %d: timers %q, want %q", c.now, got, c.left)
 		}
 	}
 }
 
-func fill(t *testing.T, list []timers.Timer) timers.Timers {
-	t.Helper()
-	var all timers.Timers
-	for _, one := range list {
-		if !all.Start(one) {
-			t.Fatalf("P10: %v does not start", one)
-		}
+// TestTakenOut: a timer that fires runs no more in its turn, and takes no room there.
+func TestTakenOut(t *testing.T) {
+	m := start(t, "state a\n enter"+strings.Repeat(" do send y 1 as i", api.MaxTimers)+"\n on y do send z 7 as j\n on full to b\nstate b\n")
+	steps, err := m.Clock(1)
+	if len(steps) != api.MaxTimers || err != nil {
+		t.Fatalf("P11: Clock = %v, %v", steps, err)
 	}
-	return all
-}
-
-func TestLater(t *testing.T) {
-	const greatest = math.MaxUint64
-	for _, c := range [][3]uint64{{0, 0, 0}, {3, 4, 7}, {0, greatest, greatest}, {1, greatest - 1, greatest}, {1, greatest, greatest}, {greatest, 0, greatest}, {greatest, 1, greatest}, {greatest, greatest, greatest}, {1 << 63, 1 << 63, greatest}, {1<<63 - 1, 1 << 63, greatest}, {1<<63 - 1, 1<<63 - 1, greatest - 1}} {
-		if got := later(c[0], c[1]); got != c[2] {
-			t.Errorf("P10: %d behind %d: %d, want %d", c[1], c[0], got, c[2])
-		}
+	if got := running(m); got != strings.Repeat("8 z j; ", api.MaxTimers-1)+"8 z j" || !slices.Equal(steps[11].States, []string{"a"}) {
+		t.Errorf("P11: timers %q, steps %v", got, steps)
 	}
 }
 
 // TestStepTellsTheTime: a step has the time at hand.
 func TestStepTellsTheTime(t *testing.T) {
 	m := start(t, "state a\n")
-	m.now = 42
+	m.Clock(42)
 	steps, err := m.Event("x")
 	if err != nil || len(steps) != 1 || steps[0].Time != 42 || !slices.Equal(steps[0].States, []string{"a"}) {
 		t.Errorf("P7: %v, %v", steps, err)
